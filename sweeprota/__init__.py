@@ -1,0 +1,1 @@
+"""Sweeprota: robots that sweep a corridor by signs."""

@@ -1,0 +1,16 @@
+"""Checks the ticks that are passed to functions."""
+
+from sweeprota.errors import InvalidTick
+
+LAST_TICK = 10 ** 18
+
+
+def is_integer(value):
+    """Returns whether a value is an integer; True and False are none."""
+    return isinstance(value, int) and not isinstance(value, bool)
+
+
+def check_tick(tick, lowest=0, highest=LAST_TICK):
+    """Raises InvalidTick unless a value is an integer from lowest to highest."""
+    if not is_integer(tick) or not lowest <= tick <= highest:
+        raise InvalidTick(f"not an integer from {lowest} to {highest}")

@@ -1,0 +1,56 @@
+"""What several tests use: sample plans, and a check for errors with attributes."""
+
+SWEEP = (
+    "corridor 3; signs no red; moods go; robot 0 right; "
+    "when go no leave red on go; when go red leave no on go;"
+)
+
+
+class FaultCase:
+    """Mixed into a test case: checks the attributes of an error."""
+
+    def assert_fault(self, error, attributes, call, *arguments):
+        with self.assertRaises(error) as caught:
+            call(*arguments)
+        self.assertIs(type(caught.exception), error)
+        self.assertEqual(attributes, vars(caught.exception), arguments)
+
+
+def counter(size, start, moods, digits):
+    """A plan whose robot counts in base 3, one digit on a tile, and rests after an overflow.
+
+    digits are the signs on the tiles 1, 2 .., between two tiles with the sign end. One pass takes
+    2 * carries + 2 ticks, the last one as many ticks as there are digits.
+    """
+    return (
+        f"corridor {size}; signs zero one two end; moods {moods}; robot {start}; "
+        + puts(1, digits) + f"put end 0; put end {len(digits) + 1}; "
+        "when add zero leave one back keep; when add one leave two back keep; "
+        "when add two leave zero on add; "
+        "when keep zero leave zero on keep; when keep end leave end back add;"
+    )
+
+
+def ring(digits):
+    """A counter of eight digits that begins again after an overflow, in 3 ** 9 - 1 ticks.
+
+    Before that, its robot counts upwards on the tiles 14 to 10, from these digits on, once.
+    """
+    return (
+        "corridor 16; signs zero one two end; moods plus minus add keep; robot 14 left; "
+        "put end 0; put end 9; put end 15; " + puts(10, digits) +
+        "when plus zero leave one back minus; when plus one leave two back minus; "
+        "when plus two leave zero on plus; when plus end leave end on keep; "
+        "when minus zero leave zero on minus; when minus end leave end back plus; "
+        "when add zero leave one back keep; when add one leave two back keep; "
+        "when add two leave zero on add; when add end leave end back keep; "
+        "when keep zero leave zero on keep; when keep end leave end back add;"
+    )
+
+
+def puts(first, digits):
+    """The puts of digits on the tiles from a first one on."""
+    names = ["zero", "one", "two"]
+    return "".join(
+        f"put {names[int(digit)]} {first + at}; " for at, digit in enumerate(digits)
+    )

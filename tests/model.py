@@ -1,0 +1,67 @@
+"""A second, simple machine, written from the document alone, to compare the package with."""
+
+import re
+
+
+class Model:
+    """Runs a correct plan with names instead of numbers."""
+
+    def __init__(self, text):
+        words = re.findall(r"[a-z]+|[0-9]+|;", text)
+        statements = " ".join(words).split(" ;")
+        self.robots = []
+        self.rules = {}
+        placed = {}
+        for statement in statements:
+            match statement.split():
+                case ["corridor", number]:
+                    self.size = int(number)
+                case ["signs", *names]:
+                    self.sign_names = names
+                case ["moods", *names]:
+                    self.mood_names = names
+                case ["robot", number, side]:
+                    self.robots.append([int(number), side, None])
+                case ["put", name, number]:
+                    placed[int(number)] = name
+                case ["when", mood, sign, "leave", new_sign, move, new_mood]:
+                    self.rules[mood, sign] = (new_sign, move, new_mood)
+        for robot in self.robots:
+            robot[2] = self.mood_names[0]
+        self.signs = [placed.get(tile, self.sign_names[0]) for tile in range(self.size)]
+
+    def situation(self):
+        return repr((self.signs, self.robots))
+
+    def tick(self):
+        """Lets one tick pass; returns (tile, word) for each robot."""
+        return [(robot[0], self.act(robot)) for robot in self.robots]
+
+    def act(self, robot):
+        rule = self.rules.get((robot[2], self.signs[robot[0]]))
+        if rule is None:
+            return "rest"
+        self.signs[robot[0]], word, robot[2] = rule
+        if word == "back":
+            self.turn(robot)
+        if word != "stay":
+            ahead = robot[0] + {"left": -1, "right": 1}[robot[1]]
+            if ahead in range(self.size):
+                robot[0] = ahead
+            else:
+                self.turn(robot)
+        return word
+
+    def turn(self, robot):
+        robot[1] = {"left": "right", "right": "left"}[robot[1]]
+
+    def cycle(self, limit):
+        """Returns (begin, length), or None if no situation comes again up to a tick."""
+        seen = {}
+        for tick in range(limit + 1):
+            now = self.situation()
+            if now in seen:
+                return seen[now], tick - seen[now]
+            seen[now] = tick
+            self.tick()
+        return None
