@@ -31,11 +31,35 @@ class Plan:
 
 def read_plan(text):
     """Returns the Plan of a text; raises SyntaxFault, CheckFault."""
+    return checked_plan(parse(text))
+
+
+def read_plans(texts):
+    """Returns the list of the Plans of several texts; raises SyntaxFault, CheckFault."""
+    # A SyntaxFault in any text comes before a CheckFault in an earlier one, as the interface lists them.
+    parsed = [parse(text) for text in texts]
+    return [checked_plan(statements) for statements in parsed]
+
+
+def checked_plan(statements):
+    """Returns the Plan of the statements of a text; raises CheckFault."""
     plan = Plan()
-    for statement in parse(text):
+    for statement in statements:
         add = ADDERS[statement.word.kind]
         add(plan, statement)
     return plan
+
+
+def changed_plan(plan, robots, puts):
+    """Returns a Plan that is like another one but for the robots and the puts."""
+    changed = Plan()
+    changed.size = plan.size
+    changed.signs = plan.signs
+    changed.moods = plan.moods
+    changed.robots = robots
+    changed.puts = puts
+    changed.rules = plan.rules
+    return changed
 
 
 def require(holds, reason, token):

@@ -40,6 +40,23 @@ class Run:
             return tick
         return self.start + (tick - self.start) % self.length
 
+    def tiles_in(self, tick):
+        """Returns the list of the tiles that all robots sweep in a tick, in their order."""
+        _, robots = self.situations[self.first_like(tick)]
+        return [robot[0] for robot in robots]
+
+    def tiles_from(self, first):
+        """Returns the ascending list of all tiles that are swept in some tick from a first one on."""
+        found = set()
+        for tick in range(first, max(first, self.start) + self.length):
+            for tile in self.tiles_in(tick):
+                found.add(tile)
+        return sorted(found)
+
+    def tiles_for_ever(self):
+        """Returns the ascending list of all tiles that are swept in the cycle."""
+        return self.tiles_from(self.start)
+
 
 def first_situation(plan):
     """Returns the situation in the beginning."""

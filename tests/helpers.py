@@ -1,4 +1,4 @@
-"""What several tests use: sample plans, and a check for errors with attributes."""
+"""What several tests use: sample and random plans, wrong values, and a check for errors with attributes."""
 
 SWEEP = (
     "corridor 3; signs no red; moods go; robot 0 right; "
@@ -48,9 +48,46 @@ def ring(digits):
     )
 
 
+# The rules of the counters below that also count from right to left, between an end and the left wall.
+COUNTING = (
+    "when add zero leave one back keep; when add one leave two back keep; when add two leave zero on add; "
+    "when keep zero leave zero on keep; when keep end leave end back add; "
+)
+# Too long without any put: the robot leaves an end at the right wall, and then counts to 3 ** 15.
+TOO_LONG_BARE = (
+    "corridor 16; signs zero one two end; moods begin add keep; robot 15 left; "
+    "when begin zero leave end on add; " + COUNTING
+)
+SYNTAX_WRONG = "corridor 0; A"
+CHECK_WRONG = "corridor 0; signs a; moods m; robot 0 left;"
+
+
 def puts(first, digits):
     """The puts of digits on the tiles from a first one on."""
     names = ["zero", "one", "two"]
     return "".join(
         f"put {names[int(digit)]} {first + at}; " for at, digit in enumerate(digits)
     )
+
+
+def random_plan(chance, sizes=(1, 2, 3, 5, 8), most_signs=4):
+    """The text of a correct plan."""
+    size = chance.choice(sizes)
+    signs = ["a", "b", "c", "d"][:chance.randint(1, most_signs)]
+    moods = ["m", "n", "a", "b", "c", "d"][:chance.randint(1, 6)]
+    rows = [robot_row(chance, size) for _ in range(chance.randint(0, 2))]
+    for tile in chance.sample(range(size), chance.randint(0, size)):
+        rows.append(f"put {chance.choice(signs)} {tile};")
+    for mood in moods:
+        for sign in signs:
+            if chance.random() < 0.8:
+                move = chance.choice(["on", "on", "back", "stay"])
+                rows.append(f"when {mood} {sign} leave {chance.choice(signs)} {move} {chance.choice(moods)};")
+    chance.shuffle(rows)
+    # The first of the rows must be a robot.
+    rows.insert(0, robot_row(chance, size))
+    return f"corridor {size}; signs {' '.join(signs)}; moods {' '.join(moods)}; " + " ".join(rows)
+
+
+def robot_row(chance, size):
+    return f"robot {chance.randrange(size)} {chance.choice(['left', 'right'])};"

@@ -65,3 +65,23 @@ class Model:
             seen[now] = tick
             self.tick()
         return None
+
+
+class Walk:
+    """The first ticks of a plan: the rows of the tiles and words of all robots, and the signs after each."""
+
+    def __init__(self, text, count):
+        model = Model(text)
+        self.size = model.size
+        self.tiles = []
+        self.words = []
+        self.signs = []
+        for _ in range(count):
+            done = model.tick()
+            self.tiles.append([tile for tile, _ in done])
+            self.words.append([word for _, word in done])
+            self.signs.append(list(model.signs))
+
+    def ticks_of(self, tile):
+        """The ticks in which a tile is swept."""
+        return [tick for tick, tiles in enumerate(self.tiles) if tile in tiles]

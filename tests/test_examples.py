@@ -2,9 +2,12 @@
 
 import unittest
 
+from sweeprota.comparison import first_difference, first_error
 from sweeprota.errors import CheckFault, SyntaxFault
 from sweeprota.formatter import format_plan, signs_of
 from sweeprota.machine import find_cycle, robots_in, signs_on, trace
+from sweeprota.planning import fewest_signs, good_starts
+from sweeprota.sweeping import count_swept, longest_wait, never_swept, next_swept, rest_tick, swept_for_ever
 from tests.helpers import SWEEP, FaultCase
 
 
@@ -42,6 +45,44 @@ class ExampleTest(FaultCase, unittest.TestCase):
 
     def test_find_cycle(self):
         self.assertEqual((0, 6), find_cycle(SWEEP))
+
+    def test_rest_tick(self):
+        self.assertEqual(3, rest_tick(
+            "corridor 3; signs no red; moods go; robot 0 right; when go no leave red on go;"))
+
+    def test_swept_for_ever(self):
+        self.assertEqual([0, 1, 2], swept_for_ever(SWEEP))
+
+    def test_never_swept(self):
+        self.assertEqual([0, 2], never_swept(
+            "corridor 3; signs no; moods go; robot 1 right; when go no leave no stay go;"))
+
+    def test_count_swept(self):
+        self.assertEqual(4, count_swept(SWEEP, 2, 12))
+
+    def test_next_swept(self):
+        self.assertEqual(5, next_swept(SWEEP, 0, 1))
+
+    def test_longest_wait(self):
+        self.assertEqual((5, 0, 0), longest_wait(SWEEP))
+
+    def test_fewest_signs(self):
+        plan = "corridor 2; signs no red; moods go; robot 0 right; " \
+            "when go red leave red on go; when go no leave no stay go;"
+        self.assertEqual([(0, "red"), (1, "red")], fewest_signs(plan, 2)[0])
+
+    def test_good_starts(self):
+        self.assertEqual(
+            [(0, "left"), (0, "right"), (1, "left"), (1, "right")],
+            good_starts("corridor 2; signs no; moods go; robot 0 right; when go no leave no on go;"),
+        )
+
+    def test_first_difference(self):
+        other = "corridor 3; signs no red; moods go; robot 0 right; when go no leave red on go;"
+        self.assertEqual(3, first_difference(SWEEP, other))
+
+    def test_first_error(self):
+        self.assertEqual(2, first_error(SWEEP, [[0], [1], [1]]))
 
 
 if __name__ == "__main__":

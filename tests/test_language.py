@@ -8,7 +8,7 @@ FOLDER = pathlib.Path(__file__).resolve().parent.parent / "sweeprota"
 FILES = sorted(FOLDER.glob("*.py"))
 BUILTINS = set(
     "len range enumerate zip min max sum abs sorted reversed int str bool bytes list tuple dict set "
-    "isinstance ord any all ValueError super property classmethod staticmethod".split()
+    "isinstance ord any all divmod ValueError super property classmethod staticmethod".split()
 )
 METHODS = set(
     "append clear copy count endswith extend find get index insert isalnum isalpha isdigit islower isspace "
@@ -23,6 +23,9 @@ INTERFACE = {
     ],
     "formatter": ["format_plan", "signs_of"],
     "machine": ["signs_on", "robots_in", "trace", "find_cycle"],
+    "sweeping": ["rest_tick", "swept_for_ever", "never_swept", "count_swept", "next_swept", "longest_wait"],
+    "planning": ["fewest_signs", "good_starts"],
+    "comparison": ["first_difference", "first_error"],
 }
 
 
@@ -61,6 +64,9 @@ class LanguageTest(unittest.TestCase):
     def test_imports_name_the_defining_file(self):
         self.assertEqual([], nodes(ast.Import))
         for name, node in nodes(ast.ImportFrom):
+            if node.module == "itertools":
+                self.assertEqual(["combinations"], [alias.name for alias in node.names], name)
+                continue
             package, module = node.module.split(".")
             self.assertEqual("sweeprota", package, name)
             defined = self.defined_in(f"{module}.py")

@@ -6,30 +6,8 @@ import unittest
 from sweeprota.errors import TooLong
 from sweeprota.formatter import format_plan
 from sweeprota.machine import find_cycle, robots_in, signs_on, trace
+from tests.helpers import random_plan
 from tests.model import Model
-
-
-def random_plan(chance):
-    """The text of a correct plan."""
-    size = chance.choice([1, 2, 3, 5, 8])
-    signs = ["a", "b", "c", "d"][:chance.randint(1, 4)]
-    moods = ["m", "n", "a", "b", "c", "d"][:chance.randint(1, 6)]
-    rows = [robot_row(chance, size) for _ in range(chance.randint(0, 2))]
-    for tile in chance.sample(range(size), chance.randint(0, size)):
-        rows.append(f"put {chance.choice(signs)} {tile};")
-    for mood in moods:
-        for sign in signs:
-            if chance.random() < 0.8:
-                move = chance.choice(["on", "on", "back", "stay"])
-                rows.append(f"when {mood} {sign} leave {chance.choice(signs)} {move} {chance.choice(moods)};")
-    chance.shuffle(rows)
-    # The first of the rows must be a robot.
-    rows.insert(0, robot_row(chance, size))
-    return f"corridor {size}; signs {' '.join(signs)}; moods {' '.join(moods)}; " + " ".join(rows)
-
-
-def robot_row(chance, size):
-    return f"robot {chance.randrange(size)} {chance.choice(['left', 'right'])};"
 
 
 class RandomTest(unittest.TestCase):
