@@ -3,7 +3,7 @@
 from itertools import combinations
 
 from sweeprota.formatter import canonical_text
-from sweeprota.plans import SIDES, changed_plan, read_plan
+from sweeprota.plans import changed_plan, read_plan, started_plans
 from sweeprota.running import Run
 from sweeprota.ticks import check_number
 
@@ -35,14 +35,7 @@ def choices_of(plan, many):
 
 def good_starts(plan):
     """Returns the list of all starts of robot 0 with which all tiles are swept for ever."""
-    checked = read_plan(plan)
-    starts = []
-    for tile in range(checked.size):
-        for side, word in enumerate(SIDES):
-            robots = [(tile, side)] + checked.robots[1:]
-            if sweeps_all(changed_plan(checked, robots, checked.puts)):
-                starts.append((tile, word))
-    return starts
+    return [start for start, tried in started_plans(read_plan(plan)) if sweeps_all(tried)]
 
 
 def sweeps_all(plan):

@@ -62,6 +62,16 @@ def changed_plan(plan, robots, puts):
     return changed
 
 
+def started_plans(plan):
+    """Returns the list of (start, Plan) for all starts (tile, "left" or "right") of robot 0, all else being equal."""
+    plans = []
+    for tile in range(plan.size):
+        for side, word in enumerate(SIDES):
+            robots = [(tile, side)] + plan.robots[1:]
+            plans.append(((tile, word), changed_plan(plan, robots, plan.puts)))
+    return plans
+
+
 def require(holds, reason, token):
     """Raises CheckFault at a token unless what is required holds."""
     if not holds:

@@ -36,14 +36,11 @@ class Run:
 
     def first_like(self, tick):
         """Returns the first tick that has the same situation as a tick."""
-        if tick < self.start:
-            return tick
-        return self.start + (tick - self.start) % self.length
+        return first_in_cycle(tick, self.start, self.length)
 
     def tiles_in(self, tick):
         """Returns the list of the tiles that all robots sweep in a tick, in their order."""
-        _, robots = self.situations[self.first_like(tick)]
-        return [robot[0] for robot in robots]
+        return swept_tiles(self.situations[self.first_like(tick)])
 
     def tiles_from(self, first):
         """Returns the ascending list of all tiles that are swept in some tick from a first one on."""
@@ -56,6 +53,19 @@ class Run:
     def tiles_for_ever(self):
         """Returns the ascending list of all tiles that are swept in the cycle."""
         return self.tiles_from(self.start)
+
+
+def first_in_cycle(tick, start, length):
+    """Returns the first tick that has the same situation as a tick, by the first tick and the length of the cycle."""
+    if tick < start:
+        return tick
+    return start + (tick - start) % length
+
+
+def swept_tiles(situation):
+    """Returns the list of the tiles that all robots sweep in a tick with this situation, in their order."""
+    _, robots = situation
+    return [robot[0] for robot in robots]
 
 
 def first_situation(plan):

@@ -58,6 +58,13 @@ TOO_LONG_BARE = (
     "corridor 16; signs zero one two end; moods begin add keep; robot 15 left; "
     "when begin zero leave end on add; " + COUNTING
 )
+# One start of robot 0 is too long: on tile 0, to the left. From all others it rests early.
+TOO_LONG_START = (
+    "corridor 16; signs zero one two end; moods begin look add keep; robot 3 left; put end 0; "
+    "when begin end leave end on look; when look end leave end on add; " + COUNTING
+)
+# Values of the kinds that may be passed although they are no number at all.
+NO_NUMBERS = [True, False, None, "0", "1", "a", "", [], [0], (), (0,)]
 SYNTAX_WRONG = "corridor 0; A"
 CHECK_WRONG = "corridor 0; signs a; moods m; robot 0 left;"
 

@@ -67,6 +67,68 @@ class Model:
         return None
 
 
+def starts_in(size):
+    """All starts of a robot, in order."""
+    return [(tile, side) for tile in range(size) for side in ("left", "right")]
+
+
+def with_start(text, start):
+    """The text of a plan with another start of robot 0."""
+    tile, side = start
+    return re.sub("robot\\s+[0-9]+\\s+(left|right)", f"robot {tile} {side}", text, count=1)
+
+
+class Ledger:
+    """A corridor that only lists operations, and executes them from the beginning whenever it is asked something.
+
+    Its operations are the tuples of a batch.
+    """
+
+    def __init__(self, text):
+        self.text = text
+        self.done = []
+        self.undone = []
+
+    def execute(self, operation):
+        """Executes a correct operation; returns its result."""
+        if operation == ("undo",):
+            return self.shift(self.done, self.undone)
+        if operation == ("redo",):
+            return self.shift(self.undone, self.done)
+        self.done.append(operation)
+        self.undone = []
+        return self.told()[-1]
+
+    def shift(self, source, target):
+        if not source:
+            return False
+        target.append(source.pop())
+        return True
+
+    def told(self):
+        """The list of all properties, and of the result of the last operation in effect."""
+        model = Model(self.text)
+        sweeps = [0] * model.size
+        passed = 0
+        result = None
+        for word, *arguments in self.done:
+            if word == "step":
+                passed += arguments[0]
+                result = [[tile for tile, _ in model.tick()] for _ in range(arguments[0])]
+                for tile in sum(result, []):
+                    sweeps[tile] += 1
+            elif word == "put":
+                tile, sign = arguments
+                result = model.signs[tile]
+                model.signs[tile] = sign
+            else:
+                robot = model.robots[arguments[0]]
+                result = robot[0]
+                model.turn(robot)
+        robots = [tuple(robot) for robot in model.robots]
+        return [passed, robots, model.signs, sweeps, [operation[0] for operation in self.done], result]
+
+
 class Walk:
     """The first ticks of a plan: the rows of the tiles and words of all robots, and the signs after each."""
 

@@ -1,13 +1,18 @@
-"""The examples of the interface."""
+"""The examples of the interface, and those of README.md."""
 
+import doctest
+import pathlib
 import unittest
 
 from sweeprota.comparison import first_difference, first_error
-from sweeprota.errors import CheckFault, SyntaxFault
+from sweeprota.corridor import Corridor
+from sweeprota.encoding import decode, encode
+from sweeprota.errors import CheckFault, InvalidCode, InvalidOperation, SyntaxFault, UnknownSign
 from sweeprota.formatter import format_plan, signs_of
 from sweeprota.machine import find_cycle, robots_in, signs_on, trace
 from sweeprota.planning import fewest_signs, good_starts
 from sweeprota.sweeping import count_swept, longest_wait, never_swept, next_swept, rest_tick, swept_for_ever
+from sweeprota.watching import Watcher
 from tests.helpers import SWEEP, FaultCase
 
 
@@ -83,6 +88,63 @@ class ExampleTest(FaultCase, unittest.TestCase):
 
     def test_first_error(self):
         self.assertEqual(2, first_error(SWEEP, [[0], [1], [1]]))
+
+    def test_watcher(self):
+        watcher = Watcher(SWEEP, 0)
+        self.assertEqual(["no", "red"], watcher.possible(0))
+        self.assertEqual(2, watcher.see(0, "red"))
+        self.assertEqual([(0, "left"), (0, "right")], watcher.starts)
+        self.assertEqual([(0, "red")], watcher.history)
+        self.assertEqual(1, Watcher(SWEEP, 0).see_from(0, "red", "no"))
+        self.assertRaises(UnknownSign, Watcher(SWEEP, 0).see, 0, "blue")
+
+    def test_encode_and_decode(self):
+        code = [82, 2, 1, 2, 13, 14, 1, 2, 6, 14, 1, 0, 1, 0, 0, 1, 0, 0, 0, 0, 0, 140]
+        self.assertEqual(
+            code, encode("corridor 2; signs no; moods go; robot 0 right; when go no leave no on go;"))
+        self.assertEqual(
+            "corridor 2;\nsigns no;\nmoods go;\nrobot 0 right;\nwhen go no leave no on go;", decode(code))
+        self.assert_fault(InvalidCode, {"place": 1}, decode, [82, 17])
+
+    def test_corridor(self):
+        self.assertEqual([[0], [1]], Corridor(SWEEP).step(2))
+        self.assertEqual("no", Corridor(SWEEP).put(0, "red"))
+        corridor = Corridor(SWEEP)
+        self.assertEqual(0, corridor.turn(0))
+        self.assertEqual([(0, "left", "go")], corridor.robots_now)
+        corridor = Corridor(SWEEP)
+        corridor.step(9)
+        self.assertEqual(9, corridor.passed)
+        corridor = Corridor(SWEEP)
+        corridor.step(1)
+        self.assertEqual(["red", "no", "no"], corridor.signs_now)
+        corridor.step(3)
+        self.assertEqual([1, 1, 2], corridor.sweeps)
+        self.assertEqual(["step", "step"], corridor.operations)
+
+    def test_undo_and_redo(self):
+        corridor = Corridor(SWEEP)
+        corridor.step(1)
+        self.assertEqual([True, 0, False], [corridor.undo(), corridor.passed, corridor.undo()])
+        self.assertEqual([True, 1], [corridor.redo(), corridor.passed])
+
+    def test_save_and_restore(self):
+        corridor = Corridor(SWEEP)
+        self.assertIsNone(corridor.save("x"))
+        corridor.step(1)
+        self.assertIsNone(corridor.restore("x"))
+        self.assertEqual(0, corridor.passed)
+
+    def test_batch_and_replay(self):
+        self.assertEqual([[[0]], True], Corridor(SWEEP).batch([("step", 1), ("undo",)]))
+        self.assert_fault(InvalidOperation, {"place": 0}, Corridor(SWEEP).batch, [("step",)])
+        self.assertEqual(["red", "red", "red"], Corridor.replay(SWEEP, [("step", 3)]).signs_now)
+
+    def test_the_readme(self):
+        file = pathlib.Path(__file__).resolve().parent.parent / "README.md"
+        failed, tried = doctest.testfile(str(file), module_relative=False)
+        self.assertEqual(0, failed)
+        self.assertGreater(tried, 30)
 
 
 if __name__ == "__main__":

@@ -1,6 +1,9 @@
 """Some rules of the language subset that are easy to check: files, sizes, characters, words."""
 
 import ast
+import builtins
+import importlib
+import inspect
 import pathlib
 import unittest
 
@@ -26,6 +29,30 @@ INTERFACE = {
     "sweeping": ["rest_tick", "swept_for_ever", "never_swept", "count_swept", "next_swept", "longest_wait"],
     "planning": ["fewest_signs", "good_starts"],
     "comparison": ["first_difference", "first_error"],
+    "watching": ["Watcher"],
+    "encoding": ["encode", "decode"],
+    "corridor": ["Corridor"],
+}
+MEMBERS = {
+    "Watcher": ["see", "see_from", "starts", "history", "possible"],
+    "Corridor": [
+        "step", "put", "turn", "undo", "redo", "passed", "robots_now", "signs_now", "sweeps", "operations",
+        "save", "restore", "batch", "replay",
+    ],
+}
+PROPERTIES = ["starts", "history", "passed", "robots_now", "signs_now", "sweeps", "operations"]
+# The arguments of all functions, classes and methods of the interface.
+ARGUMENTS = {
+    "format_plan": "plan", "signs_of": "plan",
+    "signs_on": "plan tick", "robots_in": "plan tick", "trace": "plan first last", "find_cycle": "plan",
+    "rest_tick": "plan", "swept_for_ever": "plan", "never_swept": "plan", "count_swept": "plan tile ticks",
+    "next_swept": "plan tile tick", "longest_wait": "plan",
+    "fewest_signs": "plan limit", "good_starts": "plan",
+    "first_difference": "plan other", "first_error": "plan log",
+    "Watcher": "plan tile", "see": "tick sign", "see_from": "first *signs", "possible": "tick",
+    "encode": "plan", "decode": "code",
+    "Corridor": "plan", "step": "count", "put": "tile sign", "turn": "number", "undo": "", "redo": "",
+    "save": "name", "restore": "name", "batch": "operations", "replay": "plan operations",
 }
 
 
@@ -89,8 +116,34 @@ class LanguageTest(unittest.TestCase):
             for name in names:
                 self.assertIn(name, defined)
 
+    def interface(self):
+        """All functions, classes and members of the interface, by their names, but for the errors."""
+        found = {}
+        for module, names in INTERFACE.items():
+            for name in names if module != "errors" else []:
+                found[name] = getattr(importlib.import_module(f"sweeprota.{module}"), name)
+        for owner, names in MEMBERS.items():
+            # In the class itself, not in a base class; getattr binds the class method.
+            found.update({name: getattr(found[owner], name) for name in names if name in vars(found[owner])})
+        return found
+
+    def test_the_interface_has_its_arguments(self):
+        interface = self.interface()
+        self.assertEqual(set(ARGUMENTS) | set(PROPERTIES), set(interface))
+        for name, words in ARGUMENTS.items():
+            with self.subTest(name):
+                arguments = [str(each) for each in inspect.signature(interface[name]).parameters.values()]
+                self.assertEqual(words.split(), [word for word in arguments if word != "self"])
+
+    def test_the_interface_has_its_properties(self):
+        interface = self.interface()
+        for name in PROPERTIES:
+            self.assertIs(property, type(interface[name]))
+            self.assertIsNone(interface[name].fset)
+
     def test_only_listed_builtins(self):
-        builtin_names = set(dir(__builtins__)) if not isinstance(__builtins__, dict) else set(__builtins__)
+        # A doctest leaves its last result as the builtin _.
+        builtin_names = set(dir(builtins)) - {"_"}
         for name, node in nodes(ast.Name):
             if node.id in builtin_names:
                 self.assertIn(node.id, BUILTINS, name)

@@ -11,7 +11,7 @@ from sweeprota.machine import find_cycle
 from sweeprota.planning import fewest_signs, good_starts
 from sweeprota.sweeping import swept_for_ever
 from tests.helpers import CHECK_WRONG, COUNTING, SWEEP, SYNTAX_WRONG, TOO_LONG_BARE, counter, random_plan
-from tests.model import Model, Walk
+from tests.model import Model, Walk, starts_in, with_start
 from tests.test_ticks import TOO_LONG
 
 NO_LIMITS = [-1, 4, 5, 10 ** 18, True, False, None, "0", "", [], [0], (), (0,)]
@@ -63,11 +63,7 @@ def fewest_of_all(text, limit):
 
 def good_of_all(text):
     """The same as good_starts, by walking."""
-    starts = [(tile, side) for tile in range(Model(text).size) for side in ("left", "right")]
-    return [
-        (tile, side) for tile, side in starts
-        if sweeps_all(re.sub("robot [0-9]+ (left|right)", f"robot {tile} {side}", text, count=1))
-    ]
+    return [start for start in starts_in(Model(text).size) if sweeps_all(with_start(text, start))]
 
 
 def result_of(call, *arguments):

@@ -4,9 +4,9 @@ import unittest
 
 from sweeprota.errors import CheckFault, InvalidTick, SyntaxFault, TooLong
 from sweeprota.machine import robots_in, signs_on, trace
-from tests.helpers import SWEEP, counter
+from tests.helpers import NO_NUMBERS, SWEEP, counter
 
-NO_TICKS = [-1, 10 ** 18 + 1, -10 ** 18, True, False, None, "0", "", [], [0], (), (0,)]
+NO_TICKS = [-1, 10 ** 18 + 1, -10 ** 18] + NO_NUMBERS
 TOO_LONG = counter(14, "1 right", "add keep", "0" * 12)
 
 
